@@ -1,0 +1,1 @@
+"""Nobodymeets: a warehouse of robots that never meet."""

@@ -1,0 +1,68 @@
+"""The interface: each name in its file, with its parameters, defaults and methods."""
+
+import importlib
+import inspect
+import unittest
+
+FUNCTIONS = {
+    "dealing": {
+        "least_dealing": "(table)", "dealing_holds": "(table, value)", "soonest_dealing": "(table)",
+        "soonest_holds": "(table, value)", "robot_in": "(table, value, costs)", "robot_out": "(table, value, robot)",
+        "job_in": "(table, value, costs)", "job_out": "(table, value, job)",
+    },
+    "halls": {
+        "put_way": "(hall, one, other)", "take_way": "(hall, one, other)", "lose_cells": "(hall, cells)",
+        "change_kind": "(hall, cell, kind)", "read_drawing": "(text)", "hall_text": "(hall)",
+    },
+    "lanes": {
+        "need_standing": "(lanes, value)", "possible_goings": "(lanes, standing)",
+        "gone_standing": "(lanes, standing, lane)", "goings_left": "(lanes, standing)",
+    },
+    "letters": {
+        "need_letter": "(value, at=-1)", "need_bag": "(value)", "put_letter": "(bag, letter)",
+        "letter_at": "(bag, number)", "told_visit": "(visit, modulus)", "next_like": "(told, least, modulus)",
+    },
+    "house": {"house_again": "(hall, homes, words)"},
+    "knots": {
+        "find_knot": "(lanes, standing)", "sharing_lanes": "(lanes)", "lane_court": "(lanes)",
+        "widened_rooms": "(lanes)", "let_goings": "(lanes, standing)", "safe_paper": "(lanes, standing)",
+        "safe_holds": "(lanes, standing, value)",
+    },
+}
+CLASSES = {
+    ("halls", "Hall"): {
+        "__init__": "(self, kinds, ways, places=())", "next_cells": "(self, cell)", "near_cells": "(self, cell)",
+        "cells_of": "(self, kind)", "is_two_way": "(self)", "__eq__": None,
+    },
+    ("lanes", "LaneMap"): {"__init__": "(self, rooms, goings)", "__eq__": None},
+    ("house", "House"): {
+        "__init__": "(self, hall, homes)", "robot_place": "(self, robot)", "can_start": "(self, robot)",
+        "waits_on": "(self, robot)", "moves_left": "(self, number)", "barred_by": "(self, number)",
+        "undealt": "(self)", "errand_of": "(self, number)", "do_word": "(self, word)",
+    },
+}
+
+
+class InterfaceTest(unittest.TestCase):
+    def test_functions(self):
+        for file, functions in FUNCTIONS.items():
+            module = importlib.import_module("nobodymeets." + file)
+            for name, parameters in functions.items():
+                function = getattr(module, name)
+                self.assertTrue(inspect.isfunction(function), name)
+                self.assertEqual(function.__module__, "nobodymeets." + file)
+                self.assertEqual(str(inspect.signature(function)), parameters, name)
+
+    def test_classes(self):
+        for (file, name), methods in CLASSES.items():
+            made = getattr(importlib.import_module("nobodymeets." + file), name)
+            self.assertTrue(inspect.isclass(made), name)
+            self.assertEqual(made.__module__, "nobodymeets." + file)
+            for method, parameters in methods.items():
+                self.assertIn(method, vars(made), name)
+                if parameters is not None:
+                    self.assertEqual(str(inspect.signature(vars(made)[method])), parameters, method)
+
+
+if __name__ == "__main__":
+    unittest.main()
