@@ -1,4 +1,4 @@
-"""What all modules ask of any value: whether it is an integer, a number, a sequence, a lot."""
+"""What all modules ask of any value (whether it is a number, a sequence, a lot), and rows through graphs."""
 
 
 def is_integer(value):
@@ -11,6 +11,11 @@ def is_number(value):
     return is_integer(value) and value >= 0
 
 
+def is_count(value):
+    """Whether a value is an integer from 1 on."""
+    return is_integer(value) and value >= 1
+
+
 def is_index(value, many):
     """Whether a value is the number of one of so many things."""
     return is_integer(value) and 0 <= value < many
@@ -21,10 +26,61 @@ def is_sequence(value):
     return isinstance(value, (list, tuple))
 
 
+def is_rising(row):
+    """Whether each thing of a row is greater than the one ahead."""
+    return all([one < other for one, other in zip(row, row[1:])])
+
+
 def is_lot(value, many):
     """Whether a value is a tuple of unlike, ascending numbers of so many things."""
     if not isinstance(value, tuple):
         return False
-    if not all([is_index(number, many) for number in value]):
+    return all([is_index(number, many) for number in value]) and is_rising(value)
+
+
+def steps_from(graph, start):
+    """The fewest steps from a start to each thing to which a graph leads from it, in the order of coming."""
+    steps = {start: 0}
+    queue = [start]
+    at = 0
+    while at < len(queue):
+        one = queue[at]
+        for other in graph[one]:
+            if other not in steps:
+                steps[other] = steps[one] + 1
+                queue.append(other)
+        at += 1
+    return steps
+
+
+def shortest_row(graph, start, goal):
+    """A shortest row from a start to a goal, each thing led to by the graph from the one ahead, or None."""
+    came = {start: None}
+    queue = [start]
+    at = 0
+    while at < len(queue) and goal not in came:
+        one = queue[at]
+        for other in graph[one]:
+            if other not in came:
+                came[other] = one
+                queue.append(other)
+        at += 1
+    if goal not in came:
+        return None
+    row = [goal]
+    while row[-1] != start:
+        row.append(came[row[-1]])
+    return row[::-1]
+
+
+def turn_shortest_row(graph, start, goal):
+    """Turns a shortest row about, in a graph of dicts of dicts; whether there was one.
+
+    A row that is looked for later may then go back along this one, which so is led otherwise."""
+    row = shortest_row(graph, start, goal)
+    if row is None:
         return False
-    return all([one < other for one, other in zip(value, value[1:])])
+    for one, other in zip(row, row[1:]):
+        del graph[one][other]
+        graph[other][one] = True
+    return True

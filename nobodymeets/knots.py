@@ -1,6 +1,6 @@
 """Knots of full lanes, the standings that are safe from them, and the maps on which that is easily told."""
 
-from nobodymeets.basics import is_index
+from nobodymeets.basics import is_index, turn_shortest_row
 from nobodymeets.errors import InvalidStanding, Refused
 from nobodymeets.lanes import after_going, can_go, goings_of, is_full, need_lanes, need_standing
 
@@ -56,12 +56,8 @@ def two_rings(lanes, lane):
     perhaps back along the first, which then is led otherwise."""
     graph = door_graph(lanes, lane)
     for _ in range(2):
-        way = door_way(graph, (lane, 1), (lane, 0))
-        if way is None:
+        if not turn_shortest_row(graph, (lane, 1), (lane, 0)):
             return None
-        for one, other in zip(way, way[1:]):
-            del graph[one][other]
-            graph[other][one] = True
     used = [(one, other) for one, other in lanes.goings if (one, 1) in graph[(other, 0)]]
     return tuple([ring_along(used, lane, other) for one, other in used if one == lane])
 
@@ -77,26 +73,6 @@ def door_graph(lanes, lane):
     for one, other in lanes.goings:
         graph[(one, 1)][(other, 0)] = True
     return graph
-
-
-def door_way(graph, start, goal):
-    """A shortest row of doors from one to another one, or None."""
-    came = {start: None}
-    queue = [start]
-    at = 0
-    while at < len(queue) and goal not in came:
-        door = queue[at]
-        for other in graph[door]:
-            if other not in came:
-                came[other] = door
-                queue.append(other)
-        at += 1
-    if goal not in came:
-        return None
-    way = [goal]
-    while way[-1] != start:
-        way.append(came[way[-1]])
-    return way[::-1]
 
 
 def ring_along(used, lane, second):

@@ -7,6 +7,9 @@ from nobodymeets.halls import Hall
 from nobodymeets.house import House
 from nobodymeets.lanes import LaneMap
 
+# The words by which papers begin; a changed paper may begin with that of another kind.
+KIND_WORDS = ("dealt", "short", "out", "shut", "knot", "many", "way", "lot", "apart", "cell", "tie", "ring", "moves",
+              "lots", "barred", "kept", "tight", "given", "fewest", "lacks", "case", "bound", "carries")
 SMALL_HALL = Hall(("park", "free", "shelf"), ((0, 1), (1, 0), (1, 2), (2, 1)))
 
 
@@ -91,7 +94,8 @@ def changed_a_little(value):
         if value in (0, 1):
             yield value == 1
     else:
-        yield from (None, 0, "", value + "s", (value,), "dealt", "short", "out", "shut", "knot", "many")
+        yield from (None, 0, "", value + "s", (value,))
+        yield from KIND_WORDS
 
 
 def changed_rows(value):

@@ -28,6 +28,38 @@ FUNCTIONS = {
         "widened_rooms": "(lanes)", "let_goings": "(lanes, standing)", "safe_paper": "(lanes, standing)",
         "safe_holds": "(lanes, standing, value)",
     },
+    "orders": {
+        "wave_paper": "(shelves, wanted, knots)", "wave_holds": "(shelves, wanted, value)",
+        "pairs_paper": "(shelves, wanted)", "pairs_hold": "(shelves, wanted, value)",
+    },
+    "pictures": {"hall_picture": "(hall, robots)", "read_picture": "(text)"},
+    "pieces": {
+        "together_paper": "(hall, one, other)", "together_holds": "(hall, one, other, value)",
+        "all_pieces": "(hall)", "parting_cells": "(hall, one, other)", "parts_paper": "(hall, one, other)",
+        "parts_holds": "(hall, one, other, value)", "reached_cells": "(hall, cell)", "strong_pieces": "(hall)",
+    },
+    "prices": {
+        "prices_hold": "(table, prices)", "least_prices": "(table)", "greatest_prices": "(table)",
+        "mixed_prices": "(table, prices, others)", "power_table": "(table)", "fairest_dealing": "(table)",
+        "fairest_holds": "(table, value)", "way_table": "(hall, starts, goals)",
+    },
+    "standings": {
+        "home_tree": "(hall, one)", "standing_paper": "(hall, one, other)",
+        "standing_holds": "(hall, one, other, value)", "turned_count": "(hall, standing)",
+        "standing_count": "(hall, standing)",
+    },
+    "stations": {
+        "row_carries": "(homes, orders, slots)", "apart_orders": "(homes, orders, slots, shelf)",
+        "carries_serve": "(homes, orders, slots, value)", "made_carries": "(shelves, homes, orders, slots)",
+        "carries_fault": "(shelves, orders, slots, value)",
+    },
+    "stock": {
+        "begin_book": "(shelves)", "book_after": "(book, deeds)", "promise_paper": "(stock, comings, wants)",
+        "promise_holds": "(stock, comings, wants, value)",
+        "earliest_moment": "(stock, comings, wants, good, count)", "give_till": "(lots, line)",
+        "till_paper": "(lots, lines)", "till_holds": "(lots, lines, value)",
+        "spoilt_line": "(lots, line, gifts)",
+    },
 }
 CLASSES = {
     ("halls", "Hall"): {
