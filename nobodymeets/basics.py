@@ -40,17 +40,39 @@ def is_lot(value, many):
 
 def steps_from(graph, start):
     """The fewest steps from a start to each thing to which a graph leads from it, in the order of coming."""
-    steps = {start: 0}
-    queue = [start]
+    return steps_from_any(graph, [start])
+
+
+def steps_from_any(graph, starts):
+    """The fewest steps from any of some starts to each thing to which a graph leads, in the order of coming."""
+    steps = {}
+    for one, ahead in came_from(graph, starts).items():
+        steps[one] = 0 if ahead is None else steps[ahead] + 1
+    return steps
+
+
+def came_from(graph, starts):
+    """Each thing to which a graph leads from any of some starts, in the order of coming, with the one ahead on a
+    shortest row to it, None for the starts."""
+    came = {start: None for start in starts}
+    queue = list(came)
     at = 0
     while at < len(queue):
         one = queue[at]
         for other in graph[one]:
-            if other not in steps:
-                steps[other] = steps[one] + 1
+            if other not in came:
+                came[other] = one
                 queue.append(other)
         at += 1
-    return steps
+    return came
+
+
+def row_to(came, goal):
+    """The row along which a thing was come to, by the one ahead of each."""
+    row = [goal]
+    while came[row[-1]] is not None:
+        row.append(came[row[-1]])
+    return row[::-1]
 
 
 def shortest_row(graph, start, goal):
@@ -65,12 +87,7 @@ def shortest_row(graph, start, goal):
                 came[other] = one
                 queue.append(other)
         at += 1
-    if goal not in came:
-        return None
-    row = [goal]
-    while row[-1] != start:
-        row.append(came[row[-1]])
-    return row[::-1]
+    return row_to(came, goal) if goal in came else None
 
 
 def turn_shortest_row(graph, start, goal):

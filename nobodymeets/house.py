@@ -1,6 +1,6 @@
 """The house: robots with homes in a hall, errands dealt to them, and the order in which they pass."""
 
-from nobodymeets.basics import is_index, is_sequence
+from nobodymeets.basics import is_index, is_sequence, row_to
 from nobodymeets.errors import InvalidIndex, InvalidRobots, InvalidScript, NoRobot, Refused
 from nobodymeets.halls import need_hall
 
@@ -287,20 +287,12 @@ def first_leg(hall, start, goal):
         cell = queue[at]
         for other in hall.followers[cell]:
             if other == goal:
-                return way_back(came, cell) + (goal,), None
+                return tuple(row_to(came, cell)) + (goal,), None
             if hall.kinds[other] == "free" and other not in came:
                 came[other] = cell
                 queue.append(other)
         at += 1
     return None, tuple(sorted(queue))
-
-
-def way_back(came, cell):
-    """The way along which a cell was come to."""
-    way = [cell]
-    while came[way[-1]] is not None:
-        way.append(came[way[-1]])
-    return tuple(way[::-1])
 
 
 def house_again(hall, homes, words):

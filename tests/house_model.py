@@ -1,6 +1,7 @@
 """The house told straight from the document, to hold the package against."""
 
 MARKED = ("shelf", "station", "charger")
+ROBOT_WORDS = ("start", "come", "break", "fetch", "put")
 
 
 class Visit:
@@ -246,3 +247,20 @@ class HouseModel:
 
     def errand_of(self, number):
         return self.errands[number].goals, self.errands[number].robot
+
+
+def any_word(chance, hall, homes, model):
+    """A word by chance, more often one that can be done."""
+    kind = chance.randrange(20)
+    ends = [cell for cell, mark in hall.marks if mark != "park"]
+    if kind < 2 and ends and len(model.errands) < 9:
+        return ("errand", [chance.choice(ends) for _ in range(chance.randint(1, 3))])
+    if kind < 5:
+        return ["deal"]
+    robot = chance.randrange(len(homes) + (kind == 5))
+    if kind < 8:
+        return (chance.choice(ROBOT_WORDS), robot)
+    for name in ("come", "put", "fetch") if kind == 8 else ("come", "start"):
+        if robot < len(homes) and model.may(name, robot):
+            return [name, robot]
+    return ("start", robot)

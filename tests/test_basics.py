@@ -2,6 +2,8 @@
 
 import inspect
 
+from nobodymeets.charge import served_holds
+from nobodymeets.court import court_holds
 from nobodymeets.dealing import dealing_holds, soonest_holds
 from nobodymeets.errors import HallError
 from nobodymeets.halls import Hall
@@ -9,18 +11,26 @@ from nobodymeets.house import House
 from nobodymeets.knots import safe_holds
 from nobodymeets.lanes import LaneMap, need_standing
 from nobodymeets.letters import need_bag, need_letter
+from nobodymeets.live import Live
 from nobodymeets.orders import pairs_hold, wave_holds
 from nobodymeets.pieces import parts_holds, together_holds
+from nobodymeets.plans import need_task, plan_holds
 from nobodymeets.prices import fairest_holds
 from nobodymeets.standings import standing_holds
 from nobodymeets.stations import carries_fault, carries_serve
 from nobodymeets.stock import promise_holds, till_holds
+from nobodymeets.worlds import need_holds, need_plan, need_robots, need_script, need_way
+from nobodymeets.yards import yard_holds
 from tests.calls import KINDS, PLACES, STANDING, TABLE, WAYS, calls, hall, lanes, methods
+from tests.court_calls import TASK, charged, court_calls, live, live_methods, task_hall, wide
 from tests.helpers import KIND_WORDS, PromiseCase, is_tupled, listed, no_integers, odd_values, same, shape, tupled
 from tests.more_calls import (ENOUGH, GOODS, HOMES, LINE, LOTS, ONE, ORDERS, OTHER, ROWS, SHELVES, WANTED, WANTS,
                               more_calls, two_way)
 
-ALL_CALLS = calls() + more_calls()
+ALL_CALLS = calls() + more_calls() + court_calls()
+ALL_METHODS = methods() + live_methods()
+# What takes any value as something else than a paper: there lists may stand for tuples.
+ASKED = (need_standing, need_letter, need_bag, need_way, need_plan, need_robots, need_holds, need_script, need_task)
 
 
 def seen(value):
@@ -29,6 +39,8 @@ def seen(value):
         return ("hall", value.kinds, value.ways, value.places)
     if isinstance(value, LaneMap):
         return ("lanes", value.rooms, value.goings)
+    if isinstance(value, Live):
+        return ("live", seen(value.hall), value.homes, value.words, seen(value.house))
     if isinstance(value, House):
         return ("house", value.homes, value.words, [value.robot_place(robot) for robot in range(len(value.homes))])
     return value
@@ -36,7 +48,7 @@ def seen(value):
 
 def in_lists(call, right):
     """Arguments with lists for tuples, but for papers, books and gifts."""
-    if call in (need_standing, need_letter, need_bag):
+    if call in ASKED:
         return {name: listed(value) for name, value in right.items()}
     return {name: value if name in ("value", "book", "gifts") else listed(value) for name, value in right.items()}
 
@@ -46,7 +58,8 @@ JUDGES = (
     (dealing_holds, (TABLE,)), (soonest_holds, (TABLE,)), (safe_holds, (lanes(), STANDING)),
     (together_holds, (hall(), 0, 3)), (parts_holds, (hall(), 0, 3)), (standing_holds, (two_way(), ONE, OTHER)),
     (fairest_holds, (TABLE,)), (promise_holds, (GOODS, ROWS, WANTS)), (till_holds, (LOTS, (LINE,))),
-    (wave_holds, (SHELVES, WANTED)), (pairs_hold, (ENOUGH, WANTED)),
+    (wave_holds, (SHELVES, WANTED)), (pairs_hold, (ENOUGH, WANTED)), (court_holds, (hall(),)),
+    (plan_holds, (task_hall(), TASK)), (yard_holds, (wide(), STANDING)), (served_holds, (charged(), 4)),
 )
 
 
@@ -73,7 +86,7 @@ class BasicsTest(PromiseCase):
             for part in vars(result).values() if hasattr(result, "__dict__") else [result]:
                 if not isinstance(result, House):
                     self.assertTrue(is_tupled(part), (call, part))
-        for made, name, right, _ in methods():
+        for made, name, right, _ in ALL_METHODS:
             self.assertTrue(is_tupled(getattr(made, name)(**right)), name)
 
     def test_arguments_stay_as_they_were(self):
@@ -103,13 +116,13 @@ class BasicsTest(PromiseCase):
                     self.told(error, kept, call, **{**right, one: value, other: wrongs[other][0][0]})
 
     def test_methods(self):
-        for made, name, right, wrongs in methods():
+        for made, name, right, wrongs in ALL_METHODS:
             method = getattr(made, name)
             self.assertTrue(same(method(**right), method(*right.values())), name)
             for word, values in wrongs.items():
                 for value, error, kept in values:
-                    self.told(error, kept, method, **{word: value})
-                    self.told(error, kept, method, value)
+                    self.told(error, kept, method, **{**right, word: value})
+                    self.told(error, kept, method, *{**right, word: value}.values())
 
     def test_parameters_are_called_so(self):
         for call, right, _ in ALL_CALLS:
@@ -127,7 +140,7 @@ class BasicsTest(PromiseCase):
                 self.assertEqual(place == -1, not isinstance(item, tuple))
 
     def test_objects_are_not_iterable_and_have_no_length(self):
-        for made in (hall(), lanes(), House(hall(), (0,))):
+        for made in (hall(), lanes(), House(hall(), (0,)), live()):
             self.assertRaises(TypeError, iter, made)
             self.assertRaises(TypeError, len, made)
             self.assertRaises(TypeError, lambda thing=made: 0 in thing)

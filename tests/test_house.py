@@ -8,7 +8,7 @@ from nobodymeets.errors import InvalidHall, InvalidIndex, InvalidRobots, Invalid
 from nobodymeets.halls import Hall, read_drawing, take_way
 from nobodymeets.house import House, house_again
 from tests.helpers import PromiseCase, is_tupled, listed, odd_values, same
-from tests.house_model import HouseModel
+from tests.house_model import ROBOT_WORDS, HouseModel, any_word
 
 SQUARE = "P.H\nP.."
 DRAWINGS = (
@@ -17,7 +17,6 @@ DRAWINGS = (
     ("P..S\nPH.P\nP..C", (0, 4, 7, 8)), ("PPPPPP\n......\nS.H..C", (0, 1, 2, 3, 4, 5)), ("H.S\n#P#", (3,)),
     ("P.#H\nP.S.", (0, 3)),
 )
-ROBOT_WORDS = ("start", "come", "break", "fetch", "put")
 
 
 def look(house):
@@ -308,7 +307,7 @@ class AnyWordsTest(PromiseCase):
     def run_house(self, chance, hall, homes, many):
         house, model = House(hall, homes), HouseModel(hall, homes)
         for _ in range(many):
-            word = self.any_word(chance, hall, homes, model)
+            word = any_word(chance, hall, homes, model)
             wrong = model.error_of(word)
             if wrong is None:
                 self.do_both(house, model, word)
@@ -320,21 +319,6 @@ class AnyWordsTest(PromiseCase):
             if chance.randrange(30) == 0:
                 self.check_comings(model)
         self.assertEqual(look(house_again(hall, listed(homes), listed(house.words))), look(house))
-
-    def any_word(self, chance, hall, homes, model):
-        kind = chance.randrange(20)
-        ends = [cell for cell, mark in hall.marks if mark != "park"]
-        if kind < 2 and ends and len(model.errands) < 9:
-            return ("errand", [chance.choice(ends) for _ in range(chance.randint(1, 3))])
-        if kind < 5:
-            return ["deal"]
-        robot = chance.randrange(len(homes) + (kind == 5))
-        if kind < 8:
-            return (chance.choice(ROBOT_WORDS), robot)
-        for name in ("come", "put", "fetch") if kind == 8 else ("come", "start"):
-            if robot < len(homes) and model.may(name, robot):
-                return [name, robot]
-        return ("start", robot)
 
     def do_both(self, house, model, word):
         before = {number: (model.comings(number), model.moves_left(number)) for number in range(len(model.errands))}

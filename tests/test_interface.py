@@ -60,6 +60,34 @@ FUNCTIONS = {
         "till_paper": "(lots, lines)", "till_holds": "(lots, lines, value)",
         "spoilt_line": "(lots, line, gifts)",
     },
+    "worlds": {
+        "free_cells": "(hall)", "need_way": "(hall, value)", "is_leg": "(hall, way)", "need_plan": "(hall, value)",
+        "way_of": "(row)", "need_robots": "(hall, full, value)", "need_holds": "(hall, many, value)",
+        "robots_meet": "(hall, full, robots)", "unheld_cell": "(hall, full, robots, holds)",
+        "need_script": "(hall, many, value)",
+    },
+    "yards": {
+        "yard_knot": "(lanes, standing)", "yard_goings": "(lanes, standing)", "yard_gone": "(lanes, standing, going)",
+        "yard_paper": "(lanes, standing)", "yard_holds": "(lanes, standing, value)",
+    },
+    "blocks": {
+        "plain_blocks": "(hall)", "tie_blocks": "(hall)", "block_tree": "(blocks)",
+        "blocks_between": "(blocks, one, other)", "joined_blocks": "(blocks, one, other)",
+        "split_blocks": "(blocks, one, other)",
+    },
+    "charge": {
+        "charger_steps": "(hall)", "charger_comings": "(hall)", "latest_turn": "(hall, way, charge)",
+        "served_paper": "(hall, full)", "served_holds": "(hall, full, value)", "least_full": "(hall)",
+    },
+    "court": {
+        "end_cells": "(hall)", "court_paper": "(hall)", "is_open": "(hall)", "court_holds": "(hall, value)",
+        "errand_way": "(hall, robots, robot, errand)", "errand_most": "(hall, many)",
+    },
+    "plans": {
+        "need_task": "(hall, value)", "plan_clash": "(hall, plan)", "plan_holds": "(hall, task, value)",
+        "plan_costs": "(plan)", "joint_plan": "(hall, task)", "single_moves": "(hall, plan)",
+        "moves_plan": "(hall, task, moves)",
+    },
 }
 CLASSES = {
     ("halls", "Hall"): {
@@ -71,6 +99,11 @@ CLASSES = {
         "__init__": "(self, hall, homes)", "robot_place": "(self, robot)", "can_start": "(self, robot)",
         "waits_on": "(self, robot)", "moves_left": "(self, number)", "barred_by": "(self, number)",
         "undealt": "(self)", "errand_of": "(self, number)", "do_word": "(self, word)",
+    },
+    ("live", "Live"): {
+        "__init__": "(self, hall, homes)", "do_word": "(self, word)", "undo_word": "(self)", "redo_word": "(self)",
+        "all_places": "(self)", "places_at": "(self, number)", "told_if": "(self, number, word)",
+        "wait_chain": "(self, robot)",
     },
 }
 
