@@ -1,5 +1,9 @@
 """What all modules ask of any value (whether it is a number, a sequence, a lot), and rows through graphs."""
 
+# The doors from which all rows come and to which all go, where rows are put into a graph.
+ALL_OUT = ((), 1)
+ALL_IN = ((), 0)
+
 
 def is_integer(value):
     """Whether a value is an integer; a bool is none."""
@@ -101,3 +105,48 @@ def turn_shortest_row(graph, start, goal):
         del graph[one][other]
         graph[other][one] = True
     return True
+
+
+def rows_apart(graph, starts, goals):
+    """(Rows of things from starts to goals in a graph, no thing in two of them, as many as there can be; as many
+    things, so that each row from a start to a goal goes through one of them), both in lists.
+
+    Each thing has a door in, (thing, 0), and a door out, (thing, 1); one row goes from the one to the other. Rows are
+    put in one by one, each perhaps back along those before, which then are led otherwise."""
+    doors = door_graph(graph, starts, goals)
+    while turn_shortest_row(doors, ALL_OUT, ALL_IN):
+        pass
+    used = {one: other for one in graph for other in graph[one] if (one, 1) in doors[(other, 0)]}
+    rows = [row_along(used, start) for start in starts if ALL_OUT in doors[(start, 0)]]
+    return rows, things_between(graph, starts, doors)
+
+
+def door_graph(graph, starts, goals):
+    """To which doors one comes from each: starts are led to from a door of their own, goals lead to another one."""
+    doors = {ALL_OUT: {(start, 0): True for start in starts}, ALL_IN: {}}
+    for one in graph:
+        doors[(one, 0)] = {(one, 1): True}
+        doors[(one, 1)] = {(other, 0): True for other in graph[one]}
+    for goal in goals:
+        doors[(goal, 1)][ALL_IN] = True
+    return doors
+
+
+def row_along(used, start):
+    """The row from a start on, as far as used links lead."""
+    row = [start]
+    while row[-1] in used:
+        row.append(used[row[-1]])
+    return row
+
+
+def things_between(graph, starts, doors):
+    """The things into which one can still come when no row more can be put in, but not out again.
+
+    Links between things never bar the search, so it is these things alone that stop it."""
+    led = {door: list(others) for door, others in doors.items()}
+    for one in graph:
+        led[(one, 1)].extend([(other, 0) for other in graph[one]])
+    led[ALL_OUT].extend([(start, 0) for start in starts])
+    reached = steps_from(led, ALL_OUT)
+    return [one for one in graph if (one, 0) in reached and (one, 1) not in reached]

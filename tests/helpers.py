@@ -113,7 +113,7 @@ def changed_rows(value):
 class PromiseCase(unittest.TestCase):
     """A test case that knows how errors of this package are looked at."""
 
-    def told(self, error, kept, call, *args, **names):
+    def told(self, error, kept, call, /, *args, **names):
         """That a call raises just this error, which keeps just this thing."""
         try:
             call(*args, **names)
@@ -126,7 +126,7 @@ class PromiseCase(unittest.TestCase):
             self.fail(f"{type(caught)} {caught} for {args} {names}")
         self.fail(f"no {error} for {args} {names}")
 
-    def tells(self, expected, call, *args, **names):
+    def tells(self, expected, call, /, *args, **names):
         """That a call's result is just this, to the kinds of its values."""
         result = call(*args, **names)
         self.assertTrue(same(result, expected), (result, expected, args, names))

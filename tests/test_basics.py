@@ -5,14 +5,19 @@ import inspect
 from nobodymeets.charge import served_holds
 from nobodymeets.court import court_holds
 from nobodymeets.dealing import dealing_holds, soonest_holds
+from nobodymeets.desk import Desk
 from nobodymeets.errors import HallError
+from nobodymeets.flows import rows_hold
 from nobodymeets.halls import Hall
 from nobodymeets.house import House
 from nobodymeets.knots import safe_holds
 from nobodymeets.lanes import LaneMap, need_standing
 from nobodymeets.letters import need_bag, need_letter
 from nobodymeets.live import Live
+from nobodymeets.opened import many_holds
 from nobodymeets.orders import pairs_hold, wave_holds
+from nobodymeets.parked import trips_hold
+from nobodymeets.passings import need_passings, need_routes, passing_holds
 from nobodymeets.pieces import parts_holds, together_holds
 from nobodymeets.plans import need_task, plan_holds
 from nobodymeets.prices import fairest_holds
@@ -23,14 +28,16 @@ from nobodymeets.worlds import need_holds, need_plan, need_robots, need_script, 
 from nobodymeets.yards import yard_holds
 from tests.calls import KINDS, PLACES, STANDING, TABLE, WAYS, calls, hall, lanes, methods
 from tests.court_calls import TASK, charged, court_calls, live, live_methods, task_hall, wide
+from tests.flow_calls import PASSINGS, ROUTES, flow_calls, tee
 from tests.helpers import KIND_WORDS, PromiseCase, is_tupled, listed, no_integers, odd_values, same, shape, tupled
 from tests.more_calls import (ENOUGH, GOODS, HOMES, LINE, LOTS, ONE, ORDERS, OTHER, ROWS, SHELVES, WANTED, WANTS,
                               more_calls, two_way)
 
-ALL_CALLS = calls() + more_calls() + court_calls()
+ALL_CALLS = calls() + more_calls() + court_calls() + flow_calls()
 ALL_METHODS = methods() + live_methods()
 # What takes any value as something else than a paper: there lists may stand for tuples.
-ASKED = (need_standing, need_letter, need_bag, need_way, need_plan, need_robots, need_holds, need_script, need_task)
+ASKED = (need_standing, need_letter, need_bag, need_way, need_plan, need_robots, need_holds, need_script, need_task,
+         need_routes, need_passings)
 
 
 def seen(value):
@@ -39,6 +46,8 @@ def seen(value):
         return ("hall", value.kinds, value.ways, value.places)
     if isinstance(value, LaneMap):
         return ("lanes", value.rooms, value.goings)
+    if isinstance(value, Desk):
+        return ("desk", seen(value.live))
     if isinstance(value, Live):
         return ("live", seen(value.hall), value.homes, value.words, seen(value.house))
     if isinstance(value, House):
@@ -60,6 +69,8 @@ JUDGES = (
     (fairest_holds, (TABLE,)), (promise_holds, (GOODS, ROWS, WANTS)), (till_holds, (LOTS, (LINE,))),
     (wave_holds, (SHELVES, WANTED)), (pairs_hold, (ENOUGH, WANTED)), (court_holds, (hall(),)),
     (plan_holds, (task_hall(), TASK)), (yard_holds, (wide(), STANDING)), (served_holds, (charged(), 4)),
+    (passing_holds, (ROUTES, PASSINGS)), (rows_hold, (task_hall(), TASK, 1)), (many_holds, (tee(), 2)),
+    (trips_hold, (two_way(), ONE, OTHER)),
 )
 
 
@@ -140,7 +151,7 @@ class BasicsTest(PromiseCase):
                 self.assertEqual(place == -1, not isinstance(item, tuple))
 
     def test_objects_are_not_iterable_and_have_no_length(self):
-        for made in (hall(), lanes(), House(hall(), (0,)), live()):
+        for made in (hall(), lanes(), House(hall(), (0,)), live(), Desk()):
             self.assertRaises(TypeError, iter, made)
             self.assertRaises(TypeError, len, made)
             self.assertRaises(TypeError, lambda thing=made: 0 in thing)

@@ -88,6 +88,28 @@ FUNCTIONS = {
         "plan_costs": "(plan)", "joint_plan": "(hall, task)", "single_moves": "(hall, plan)",
         "moves_plan": "(hall, task, moves)",
     },
+    "stretches": {
+        "room_at": "(stretches, tick)", "is_free_at": "(stretches, tick)", "free_but": "(ticks, since=None)",
+        "both_free": "(one, other)", "either_free": "(one, other)", "shorten_ends": "(stretches, late)",
+        "late_free": "(hall, free, late)", "free_of": "(hall, plan)",
+    },
+    "flows": {"most_rows": "(hall, task, ticks)", "rows_hold": "(hall, task, ticks, value)"},
+    "opened": {
+        "lost_paper": "(hall, lost)", "needful_pair": "(hall, cell)", "needful_cells": "(hall)",
+        "kept_paper": "(hall, kept)", "greatest_ends": "(hall, must)", "more_ends": "(hall)",
+        "many_paper": "(hall, robots)", "many_holds": "(hall, robots, value)", "most_robots": "(hall)",
+    },
+    "parked": {
+        "trip_paper": "(hall, one, other)", "trips_hold": "(hall, one, other, value)", "end_lots": "(hall)",
+        "exchange_moves": "(hall, standing, one, other)",
+    },
+    "passings": {
+        "need_routes": "(hall, value)", "need_passings": "(routes, value)", "plan_routes": "(plan)",
+        "plan_passings": "(hall, plan)", "order_pairs": "(routes, passings)", "passing_web": "(routes, passings)",
+        "passing_paper": "(routes, passings)", "passing_holds": "(routes, passings, value)",
+        "strict_plan": "(routes, passings)",
+    },
+    "ranked": {"ranked_plan": "(hall, task, ranks)", "rank_bound": "(hall, robots)"},
 }
 CLASSES = {
     ("halls", "Hall"): {
@@ -105,6 +127,7 @@ CLASSES = {
         "all_places": "(self)", "places_at": "(self, number)", "told_if": "(self, number, word)",
         "wait_chain": "(self, robot)",
     },
+    ("desk", "Desk"): {"__init__": "(self)", "say": "(self, command)"},
 }
 
 
