@@ -49,8 +49,9 @@ def steps_from(graph, start):
 
 def steps_from_any(graph, starts):
     """The fewest steps from any of some starts to each thing to which a graph leads, in the order of coming."""
+    came = came_from(graph, starts)
     steps = {}
-    for one, ahead in came_from(graph, starts).items():
+    for one, ahead in came.items():
         steps[one] = 0 if ahead is None else steps[ahead] + 1
     return steps
 

@@ -1,6 +1,6 @@
 """Right and wrong arguments of the functions of orders, pictures, pieces, prices, standings, stations and stock."""
 
-from nobodymeets.errors import (InvalidCell, InvalidComings, InvalidDeeds, InvalidGoods, InvalidHomes, InvalidLines,
+from nobodymeets.errors import (InvalidComings, InvalidDeeds, InvalidGoods, InvalidHomes, InvalidLines,
                                 InvalidLot, InvalidLots, InvalidOrders, InvalidPicture, InvalidPrices, InvalidRobots,
                                 InvalidSize, InvalidStanding, InvalidStock, InvalidWants)
 from nobodymeets.halls import read_drawing

@@ -214,6 +214,25 @@ class ServedTest(PromiseCase):
         near = {(6, 5, 4, 3): (0, 1, 2, 3), (3, 4, 5, 6): (3, 2, 1, 0)}
         return (word, tuple((cell, near.get(one, one), near.get(other, other)) for cell, one, other in ends), outs, ins)
 
+    def test_two_ways_together_are_no_longer_than_a_full_charge(self):
+        hall = read_drawing("C..P")
+        near = (0, (0,), (0,))
+        for part, full, expected in (((3, (0, 1, 2, 3), (3, 2, 1, 0)), 6, True), ((3, (0, 1, 2, 3), (3, 2, 1, 0)), 5, False),
+                                     ((3, (0, 1, 2, 1, 2, 3), (3, 2, 1, 0)), 7, False),
+                                     ((3, (0, 1, 2, 1, 2, 3), (3, 2, 1, 0)), 8, True),
+                                     ((3, (0, 1, 2, 3), (3, 2, 1, 2, 1, 0)), 7, False),
+                                     ((3, (0, 1, 2), (3, 2, 1, 0)), 9, False), ((3, (0, 1, 2, 3), (2, 1, 0)), 9, False),
+                                     ((3, (3,), (3, 2, 1, 0)), 9, False), ((3, (0, 1, 2, 3), (3,)), 9, False),
+                                     ((3, (3, 2, 1, 0), (0, 1, 2, 3)), 9, False), ((0, (0,), (0,)), 9, False)):
+            value = ("served", (near, part), (), ())
+            self.assertEqual(is_paper(hall, full, value), expected, value)
+            self.holds_just_if(expected, served_holds, hall, full, value)
+
+    def test_the_least_of_many_hops(self):
+        self.tells(5, least_full, read_drawing("C..C....C"))
+        self.tells(5, least_full, read_drawing("C....C..C"))
+        self.tells(8, least_full, tied_hall("c.......c", [(cell, cell + 1) for cell in range(8)]))
+
     def test_cells_too_far_from_any(self):
         hall = read_drawing("C>.P#H")
         self.tells(("end", 3, (0, 1, 2, 3, 10), (0, 10, 10, 10, 10)), served_paper, hall, 9)

@@ -138,6 +138,12 @@ class CourtTest(PromiseCase):
                                 (("open", ((0, 1, 2, 3), (3, 2, 1, 0)), ()), False),
                                 (["open", ((0, 1, 2, 3), (3, 2, 1, 0))], False)):
             self.holds_just_if(expected, court_holds, hall, value)
+        # Legs through an end at their first step or their last one are none.
+        three = tied_hall("ppp..", [(0, 1), (1, 2), (0, 3), (3, 2), (1, 3), (1, 4)])
+        legs = ((0, 1), (0, 3, 2), (1, 0), (1, 2), (2, 3, 0), (2, 1))
+        for leg, expected in (((0, 3, 2), True), ((0, 1, 2), False), ((0, 3, 1, 2), False), ((0, 1, 3, 2), False),
+                              ((0, 3, 2, 3, 2), False), ((0, 3), False), ((0,), False)):
+            self.holds_just_if(expected, court_holds, three, ("open", legs[:1] + (leg,) + legs[2:]))
         apart = read_drawing("P.#.H#C.#.")
         for value, expected in ((("barred", 0, 3, (1,)), True), (("barred", 0, 3, (1, 2)), False),
                                 (("barred", 0, 4, (1,)), True), (("barred", 3, 0, (2,)), True), (("barred", 3, 0, ()), False),

@@ -4,7 +4,7 @@ import itertools
 import random
 import unittest
 
-from nobodymeets.court import court_holds, court_paper, is_open
+from nobodymeets.court import court_holds, court_paper
 from nobodymeets.errors import InvalidCell, InvalidHall, InvalidLot, InvalidSize, Refused
 from nobodymeets.halls import Hall, change_kind, lose_cells, read_drawing
 from nobodymeets.opened import (greatest_ends, kept_paper, lost_paper, many_holds, many_paper, more_ends, most_robots,

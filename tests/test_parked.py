@@ -17,7 +17,6 @@ from tests.helpers import (PromiseCase, changed_a_little, is_below, is_int, is_t
 STAR = read_drawing("P.P\n#P#")
 # Three ends, a floor with a cell at which three meet.
 TEE = tied_hall("...." "ppp", [(0, 1), (0, 2), (0, 3), (1, 4), (2, 5), (3, 6)])
-KINDS = ("free", "free", "park", "shelf")
 
 
 def row_hall(inner, lefts, rights, middles=()):
@@ -168,7 +167,11 @@ class TripTest(PromiseCase):
             self.assertEqual(is_trips_paper(STAR, begin, end, (len(trips), trips)), expected, trips)
             self.holds_just_if(expected, trips_hold, STAR, begin, end, (len(trips), trips))
         self.holds_just_if(False, trips_hold, STAR, begin, end, (4, ((0, 3), (1, 0), (0, 2))))
-        self.holds_just_if(False, trips_hold, STAR, begin, end, (5, ((0, 3), (0, 0), (0, 3), (1, 0), (0, 2))))
+        for many in (3, 5):
+            self.holds_just_if(False, trips_hold, STAR, begin, end, (many, ((0, 3), (0, 0), (0, 3), (1, 0), (0, 2))))
+        self.holds_just_if(False, trips_hold, STAR, ((0, 0),), ((0, 2),), (True, ((0, 2),)))
+        self.holds_just_if(True, trips_hold, STAR, ((0, 0),), ((0, 2),), (1, ((0, 2),)))
+        self.holds_just_if(False, trips_hold, STAR, ((0, 0),), ((0, 2),), (1, ((False, 2),)))
         for value in odd_values():
             for item in (value, (value,), (value, value), (3, value), (value, ((0, 3), (1, 0), (0, 2))), (3, (value,) * 3)):
                 self.holds_just_if(False, trips_hold, STAR, begin, end, item)

@@ -276,15 +276,16 @@ class JointTest(PromiseCase):
 
     def test_just_so_many_standings(self):
         # Two robots in the middles of two stars: in a tick each comes to any cell of its star.
-        for second, is_told in ((100, True), (101, False)):
-            ties = [(0, cell) for cell in range(1, 200)] + [(200, 200 + cell) for cell in range(1, second)]
-            hall = tied_hall("." * (200 + second), ties)
-            task = ((0, 200), (199, 199 + second))
+        for first, second, is_told in ((200, 100, True), (177, 113, False)):
+            self.assertEqual(first * second, 20000 if is_told else 20001)
+            ties = [(0, cell) for cell in range(1, first)] + [(first, first + cell) for cell in range(1, second)]
+            hall = tied_hall("." * (first + second), ties)
+            task = ((0, first), (first - 1, first + second - 1))
             if is_told:
-                self.tells(((0, 199), (200, 199 + second)), joint_plan, hall, task)
+                self.tells(((0, first - 1), (first, first + second - 1)), joint_plan, hall, task)
             else:
                 self.told(InvalidSize, "standings", joint_plan, hall, task)
-            self.tells(((0,), (200,)), joint_plan, hall, ((0, 200), (0, 200)))
+            self.tells(((0,), (first,)), joint_plan, hall, ((0, first), (0, first)))
 
     def test_errors_in_order(self):
         self.told(InvalidHall, -1, joint_plan, None, None)

@@ -286,7 +286,9 @@ class ScriptTest(AskedCase):
     def test_wrong_words(self):
         for word in (("order", 4, ((0, 1),)), ("order", 5, ()), ("order", 5, ((0, 0),)), ("order", 5, ((0, 1), (0, 1))),
                      ("order", 5, ((1, 1), (0, 1))), ("order", 5, ((0, True),)), ("order", 5), ("order", 5, ((0, 1),), 0),
-                     ("order", 5, ((-1, 1),)), ("order", 5, (0, 1)), ("order", 6, ((0, 1),)), ("take", -1), ("take",),
+                     ("order", 5, ((-1, 1),)), ("order", 5, (0, 1)), ("order", 6, ((0, 1),)),
+                     ("order", 5, None), ("order", 5, "01"), ("order", 5, 7), ("order", 5, (None,)), ("order", 5, ((0,),)),
+                     (None, 5, ((0, 1),)), (["order"], 5, ((0, 1),)), ("order", True, ((0, 1),)), ("take", -1), ("take",),
                      ("take", True), ("take", 0, 0), ("start", 2), ("start", -1), ("start",), ("come", False), ("deed", None),
                      ("break", 2), ("fetch", 2), ("fetch", (0,)), ("put", 0), ("put", 2, 0), ("put", 0, 6), ("put", 0, 0, 0),
                      ("lose", 6), ("mend", -1), ("mend",), ("fall", 0), ("rise", None), ("deal",), (), "fall", ("Fall",),

@@ -11,7 +11,6 @@ from tests.helpers import PromiseCase, changed_a_little, is_below, is_rising, is
 from tests.lane_worlds import random_map, random_standing
 
 PAIR = LaneMap((2, 2), ((0, 1), (1, 0)))
-TRIPLE = LaneMap((2, 2, 3), ((0, 1), (1, 0), (1, 2), (2, 0)))
 
 
 def can_go(lanes, standing, going):
