@@ -12,11 +12,17 @@ MOST_ROUTES = 8
 def need_routes(hall, value):
     """Any value as routes: for each robot its way in a hall."""
     need_hall(hall)
-    routes = need_any_routes(value)
-    for robot, route in enumerate(routes):
-        if not is_hall_route(hall, route):
+    need_few(value)
+    for robot, route in enumerate(value):
+        if not is_route(route) or not is_hall_route(hall, route):
             raise InvalidRoutes(robot)
-    return routes
+    return tuple([tuple(route) for route in value])
+
+
+def need_few(value):
+    """Refuses whatever is no sequence of one to eight things."""
+    if not is_sequence(value) or not 1 <= len(value) <= MOST_ROUTES:
+        raise InvalidRoutes(-1)
 
 
 def is_hall_route(hall, route):
@@ -28,8 +34,7 @@ def is_hall_route(hall, route):
 
 def need_any_routes(value):
     """Any value as routes of some hall: for one to eight robots numbers, each unlike the one ahead, in tuples."""
-    if not is_sequence(value) or not 1 <= len(value) <= MOST_ROUTES:
-        raise InvalidRoutes(-1)
+    need_few(value)
     for robot, route in enumerate(value):
         if not is_route(route):
             raise InvalidRoutes(robot)
@@ -115,12 +120,16 @@ def plan_passings(hall, plan):
 
 
 def order_pairs(routes, passings):
-    """All (one, a, other, b), ascending: the one's a-th visit stands ahead of the other's b-th in a cell's row."""
-    _, rows = need_both(routes, passings)
+    """All (one, a, other, b), ascending: the one's a-th visit stands ahead of another robot's b-th in a cell's row."""
+    return pairs_of(need_both(routes, passings))
+
+
+def pairs_of(both):
+    """The pairs of order_pairs of routes and passings in tuples."""
     pairs = []
-    for _, row in rows:
+    for _, row in both[1]:
         for at, (other, later) in enumerate(row):
-            pairs.extend([(one, visit, other, later) for one, visit in row[:at]])
+            pairs.extend([(one, visit, other, later) for one, visit in row[:at] if one != other])
     return tuple(sorted(pairs))
 
 

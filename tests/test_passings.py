@@ -43,8 +43,7 @@ def routes_fault(value):
 
 
 def hall_fault(hall, value):
-    fault = routes_fault(value)
-    if fault == -1:
+    if not is_row(value) or not 1 <= len(value) <= 8:
         return -1
     for robot, route in enumerate(value):
         if not is_row(route) or not route or not all(is_number(cell) and cell < hall.cells for cell in route):
@@ -228,7 +227,8 @@ class RouteTest(PromiseCase):
         self.tells(((0, 1, 2),), need_routes, one_way, ((0, 1, 2),))
         self.told(InvalidRoutes, 0, need_routes, one_way, ((2, 1, 0),))
         for value in (odd_values() + list(changed_a_little(((0, 1), (5,)))) +
-                      [((0, 2),), ((0,), ()), ((0,), (6,)), ((0,), (0, 0)), ((0,), (True,)), ((0,),) * 9, ()]):
+                      [((0, 2),), ((0,), ()), ((0,), (6,)), ((0,), (0, 0)), ((0,), (True,)), ((0,),) * 9, ()] +
+                      [((0, 2), later) for later in odd_values()] + [((0, 1), (0, 7), (1, 1), None)]):
             fault = hall_fault(self.HALL, value)
             if fault is None:
                 self.tells(tupled(value), need_routes, self.HALL, value)
@@ -293,11 +293,21 @@ class PassingTest(PromiseCase):
 
     def test_order_pairs(self):
         self.tells(((0, 1, 1, 1),), order_pairs, ROUTES, PASSINGS)
-        self.tells(((0, 0, 0, 4), (0, 1, 0, 3), (0, 1, 1, 1), (1, 0, 1, 2), (1, 1, 0, 3)), order_pairs, TWICE_ROUTES, TWICE)
+        # A robot's own two visits of a cell are no such pair.
+        self.tells(((0, 1, 1, 1), (1, 1, 0, 3)), order_pairs, TWICE_ROUTES, TWICE)
+        self.tells((), order_pairs, ((0, 1, 0),), ((0, ((0, 0), (0, 2))), (1, ((0, 1),))))
         self.tells((), order_pairs, ((5,),), ((5, ((0, 0),)),))
         for routes, passings in worlds(1, 200):
-            expected = sorted((one + other for _, row in passings for one, other in itertools.combinations(row, 2)))
+            pairs = [pair for _, row in passings for pair in itertools.combinations(row, 2)]
+            expected = sorted(one + other for one, other in pairs if one[0] != other[0])
             self.tells(tuple(expected), order_pairs, routes, passings)
+
+    def test_of_several_wrong_routes_the_first_is_told(self):
+        hall = read_drawing("...")
+        self.told(InvalidRoutes, 0, need_routes, hall, ((0, 2), 5))
+        self.told(InvalidRoutes, 1, need_routes, hall, ((0, 1), (0, 2), ()))
+        self.told(InvalidRoutes, 0, need_routes, hall, ((0, 7), (1, 1)))
+        self.told(InvalidRoutes, -1, need_routes, hall, ((0, 2),) * 9)
 
     def test_webs(self):
         self.tells((((0, 1), (0, 2)), ((0, 2), (1, 1)), ((1, 1), (1, 2))), passing_web, ROUTES, PASSINGS)
