@@ -44,6 +44,11 @@ def room_at(stretches, tick):
     """The number of the stretch that has a tick, or None."""
     told = need_stretches(stretches, -1)
     need_number(tick, "tick")
+    return room_of(told, tick)
+
+
+def room_of(told, tick):
+    """The number of the one of stretches in tuples that has a tick, or None."""
     for number, (begin, end) in enumerate(told):
         if begin <= tick and (end is None or tick < end):
             return number

@@ -10,7 +10,7 @@ from nobodymeets.lanes import LaneMap
 # The words by which papers begin; a changed paper may begin with that of another kind.
 KIND_WORDS = ("dealt", "short", "out", "shut", "knot", "many", "way", "lot", "apart", "cell", "tie", "ring", "moves",
               "lots", "barred", "kept", "tight", "given", "fewest", "lacks", "case", "bound", "carries", "open", "served",
-              "end", "behind", "first", "live")
+              "end", "behind", "first", "live", "best", "none", "leaf", "split", "stands", "round")
 SMALL_HALL = Hall(("park", "free", "shelf"), ((0, 1), (1, 0), (1, 2), (2, 1)))
 
 

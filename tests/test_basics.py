@@ -2,6 +2,7 @@
 
 import inspect
 
+from nobodymeets.carried import Carrying
 from nobodymeets.charge import served_holds
 from nobodymeets.court import court_holds
 from nobodymeets.dealing import dealing_holds, soonest_holds
@@ -32,9 +33,10 @@ from tests.flow_calls import PASSINGS, ROUTES, flow_calls, tee
 from tests.helpers import KIND_WORDS, PromiseCase, is_tupled, listed, no_integers, odd_values, same, shape, tupled
 from tests.more_calls import (ENOUGH, GOODS, HOMES, LINE, LOTS, ONE, ORDERS, OTHER, ROWS, SHELVES, WANTED, WANTS,
                               more_calls, two_way)
+from tests.way_calls import WAY_JUDGES, way_calls, way_methods
 
-ALL_CALLS = calls() + more_calls() + court_calls() + flow_calls()
-ALL_METHODS = methods() + live_methods()
+ALL_CALLS = calls() + more_calls() + court_calls() + flow_calls() + way_calls()
+ALL_METHODS = methods() + live_methods() + way_methods()
 # What takes any value as something else than a paper: there lists may stand for tuples.
 ASKED = (need_standing, need_letter, need_bag, need_way, need_plan, need_robots, need_holds, need_script, need_task,
          need_routes, need_passings)
@@ -52,6 +54,8 @@ def seen(value):
         return ("live", seen(value.hall), value.homes, value.words, seen(value.house))
     if isinstance(value, House):
         return ("house", value.homes, value.words, [value.robot_place(robot) for robot in range(len(value.homes))])
+    if isinstance(value, Carrying):
+        return ("carrying", vars(value))
     return value
 
 
@@ -71,7 +75,7 @@ JUDGES = (
     (plan_holds, (task_hall(), TASK)), (yard_holds, (wide(), STANDING)), (served_holds, (charged(), 4)),
     (passing_holds, (ROUTES, PASSINGS)), (rows_hold, (task_hall(), TASK, 1)), (many_holds, (tee(), 2)),
     (trips_hold, (two_way(), ONE, OTHER)),
-)
+) + WAY_JUDGES
 
 
 def papers_like(value):
@@ -95,7 +99,7 @@ class BasicsTest(PromiseCase):
         for call, right, _ in ALL_CALLS:
             result = call(**in_lists(call, right))
             for part in vars(result).values() if hasattr(result, "__dict__") else [result]:
-                if not isinstance(result, House):
+                if not isinstance(result, (House, Carrying)):
                     self.assertTrue(is_tupled(part), (call, part))
         for made, name, right, _ in ALL_METHODS:
             self.assertTrue(is_tupled(getattr(made, name)(**right)), name)
@@ -151,7 +155,7 @@ class BasicsTest(PromiseCase):
                 self.assertEqual(place == -1, not isinstance(item, tuple))
 
     def test_objects_are_not_iterable_and_have_no_length(self):
-        for made in (hall(), lanes(), House(hall(), (0,)), live(), Desk()):
+        for made in (hall(), lanes(), House(hall(), (0,)), live(), Desk(), Carrying(ROUTES, PASSINGS)):
             self.assertRaises(TypeError, iter, made)
             self.assertRaises(TypeError, len, made)
             self.assertRaises(TypeError, lambda thing=made: 0 in thing)

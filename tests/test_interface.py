@@ -110,6 +110,41 @@ FUNCTIONS = {
         "strict_plan": "(routes, passings)",
     },
     "ranked": {"ranked_plan": "(hall, task, ranks)", "rank_bound": "(hall, robots)"},
+    "stops": {
+        "stop_run": "(hall, full, gain, cell, charge, ends)", "stop_table": "(hall, full, gain, cell, charge, ends)",
+        "stop_holds": "(hall, full, gain, cell, charge, ends, value)",
+        "plain_ticks": "(hall, full, gain, cell, charge, ends, most)",
+    },
+    "streets": {
+        "strong_paper": "(hall)", "is_strong_hall": "(hall)", "strong_holds": "(hall, value)",
+        "hall_bridges": "(hall)", "two_way_ties": "(hall)", "narrow_ties": "(hall)", "thinned_hall": "(hall)",
+        "street_hall": "(hall)",
+    },
+    "ways": {
+        "earliest_comings": "(hall, free, cell, tick)", "coming_bound": "(hall, free, tick)",
+        "tick_cells": "(hall, free, cell, tick, last)", "earliest_row": "(hall, free, cell, tick, goal)",
+        "row_holds": "(hall, free, tick, value)", "table_holds": "(hall, free, cell, tick, value)",
+        "latest_leavings": "(hall, free, goal, tick)", "coming_pieces": "(hall, free, cell, goal, first, last)",
+        "late_row": "(row, waits)", "is_late_safe": "(hall, free, tick, row, late)",
+    },
+    "best": {
+        "lone_coming": "(hall, start, goal, barred)", "best_plan": "(hall, task, nodes)",
+        "best_holds": "(hall, task, value)",
+    },
+    "carried": {
+        "coming_times": "(routes, passings, times)", "move_slack": "(routes, passings, times, move, coming)",
+        "barred_comings": "(routes, passings, robot, visit)", "put_behind": "(routes, passings, robot, cells)",
+        "open_before": "(routes, passings, visits, coming)",
+    },
+    "detours": {
+        "greatest_detour": "(hall, marked)", "best_streets": "(hall, nodes)", "detour_holds": "(hall, value)",
+    },
+    "exchanged": {
+        "common_visits": "(routes, one, other)", "live_lots": "(routes, one, other)",
+        "visit_bundles": "(routes, one, other)", "turning_steps": "(routes, one, other, lot, aim)",
+        "turned_paper": "(routes, passings, one, other, visits)",
+        "turned_holds": "(routes, passings, one, other, visits, value)",
+    },
 }
 CLASSES = {
     ("halls", "Hall"): {
@@ -128,6 +163,10 @@ CLASSES = {
         "wait_chain": "(self, robot)",
     },
     ("desk", "Desk"): {"__init__": "(self)", "say": "(self, command)"},
+    ("carried", "Carrying"): {
+        "__init__": "(self, routes, passings)", "may_start": "(self, robot)", "start_robot": "(self, robot)",
+        "come_robot": "(self, robot)", "visit_of": "(self, robot)", "held_cells": "(self, robot)", "all_over": "(self)",
+    },
 }
 
 
