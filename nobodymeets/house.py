@@ -58,10 +58,24 @@ class House:
 
     def can_start(self, robot):
         """Whether a robot stands, isn't broken, and has nobody ahead of its next visit."""
+        return self.is_ready(robot) and self._ahead_of(robot, self._come_to[robot] + 1) is None
+
+    def is_ready(self, robot):
+        """Whether a robot stands, isn't broken, and has a next visit, whoever is ahead of it."""
         self._need_robot(robot)
         if self._is_out[robot] or self._between[robot] or self._broken[robot]:
             return False
-        return self._visits_ahead(robot) > 0 and self._ahead_of(robot, self._come_to[robot] + 1) is None
+        return self._visits_ahead(robot) > 0
+
+    def visit_come_to(self, robot):
+        """The number of the visit that a robot has come to last."""
+        self._need_robot(robot)
+        return self._come_to[robot]
+
+    def planned_cells(self, robot):
+        """The cells of all visits ever planned for a robot, by their numbers."""
+        self._need_robot(robot)
+        return tuple(self._visits[robot])
 
     def waits_on(self, robot):
         """The robot whose visit stands just ahead of a robot's next one, or None."""

@@ -108,6 +108,11 @@ def plan_passings(hall, plan):
     clash = clash_of(rows)
     if clash is not None:
         raise Refused(clash[0])
+    return timed_passings(rows)
+
+
+def timed_passings(rows):
+    """Each cell's visits by time, of a plan in tuples in which no two come to a cell at a tick."""
     comings = {}
     for robot, row in enumerate(rows):
         visit = 0

@@ -10,7 +10,8 @@ from nobodymeets.lanes import LaneMap
 # The words by which papers begin; a changed paper may begin with that of another kind.
 KIND_WORDS = ("dealt", "short", "out", "shut", "knot", "many", "way", "lot", "apart", "cell", "tie", "ring", "moves",
               "lots", "barred", "kept", "tight", "given", "fewest", "lacks", "case", "bound", "carries", "open", "served",
-              "end", "behind", "first", "live", "best", "none", "leaf", "split", "stands", "round")
+              "end", "behind", "first", "live", "best", "none", "leaf", "split", "stands", "round",
+              "plan", "gates", "within", "lifted", "turned", "bridge")
 SMALL_HALL = Hall(("park", "free", "shelf"), ((0, 1), (1, 0), (1, 2), (2, 1)))
 
 
@@ -94,9 +95,11 @@ def changed_a_little(value):
         yield from (value + 1, value - 1, value + 10, bool(value), None, str(value), (value,))
         if value in (0, 1):
             yield value == 1
-    else:
+    elif isinstance(value, str):
         yield from (None, 0, "", value + "s", (value,))
         yield from KIND_WORDS
+    else:
+        yield from (None, 0, "", (value,))
 
 
 def changed_rows(value):

@@ -2,6 +2,7 @@
 
 import inspect
 
+from nobodymeets.brain import RadioHall
 from nobodymeets.carried import Carrying
 from nobodymeets.charge import served_holds
 from nobodymeets.court import court_holds
@@ -22,6 +23,7 @@ from nobodymeets.passings import need_passings, need_routes, passing_holds
 from nobodymeets.pieces import parts_holds, together_holds
 from nobodymeets.plans import need_task, plan_holds
 from nobodymeets.prices import fairest_holds
+from nobodymeets.radiohouse import RadioHouse
 from nobodymeets.standings import standing_holds
 from nobodymeets.stations import carries_fault, carries_serve
 from nobodymeets.stock import promise_holds, till_holds
@@ -33,10 +35,11 @@ from tests.flow_calls import PASSINGS, ROUTES, flow_calls, tee
 from tests.helpers import KIND_WORDS, PromiseCase, is_tupled, listed, no_integers, odd_values, same, shape, tupled
 from tests.more_calls import (ENOUGH, GOODS, HOMES, LINE, LOTS, ONE, ORDERS, OTHER, ROWS, SHELVES, WANTED, WANTS,
                               more_calls, two_way)
+from tests.radio_calls import RADIO_JUDGES, radio_calls, radio_methods
 from tests.way_calls import WAY_JUDGES, way_calls, way_methods
 
-ALL_CALLS = calls() + more_calls() + court_calls() + flow_calls() + way_calls()
-ALL_METHODS = methods() + live_methods() + way_methods()
+ALL_CALLS = calls() + more_calls() + court_calls() + flow_calls() + way_calls() + radio_calls()
+ALL_METHODS = methods() + live_methods() + way_methods() + radio_methods()
 # What takes any value as something else than a paper: there lists may stand for tuples.
 ASKED = (need_standing, need_letter, need_bag, need_way, need_plan, need_robots, need_holds, need_script, need_task,
          need_routes, need_passings)
@@ -56,14 +59,18 @@ def seen(value):
         return ("house", value.homes, value.words, [value.robot_place(robot) for robot in range(len(value.homes))])
     if isinstance(value, Carrying):
         return ("carrying", vars(value))
+    if isinstance(value, RadioHall):
+        return ("radio", value.done, value.gone, value.known, value.bag, value.log)
+    if isinstance(value, RadioHouse):
+        return ("whole", seen(value.house), value.bag)
     return value
 
 
 def in_lists(call, right):
-    """Arguments with lists for tuples, but for papers, books and gifts."""
+    """Arguments with lists for tuples, but for papers, records, books and gifts."""
     if call in ASKED:
         return {name: listed(value) for name, value in right.items()}
-    return {name: value if name in ("value", "book", "gifts") else listed(value) for name, value in right.items()}
+    return {name: value if name in ("value", "values", "book", "gifts") else listed(value) for name, value in right.items()}
 
 
 # What tells whether any value is a paper, and a question to which none of the odd values is an answer.
@@ -75,7 +82,7 @@ JUDGES = (
     (plan_holds, (task_hall(), TASK)), (yard_holds, (wide(), STANDING)), (served_holds, (charged(), 4)),
     (passing_holds, (ROUTES, PASSINGS)), (rows_hold, (task_hall(), TASK, 1)), (many_holds, (tee(), 2)),
     (trips_hold, (two_way(), ONE, OTHER)),
-) + WAY_JUDGES
+) + WAY_JUDGES + RADIO_JUDGES
 
 
 def papers_like(value):
@@ -99,7 +106,7 @@ class BasicsTest(PromiseCase):
         for call, right, _ in ALL_CALLS:
             result = call(**in_lists(call, right))
             for part in vars(result).values() if hasattr(result, "__dict__") else [result]:
-                if not isinstance(result, (House, Carrying)):
+                if not isinstance(result, (House, Carrying, RadioHall, RadioHouse)):
                     self.assertTrue(is_tupled(part), (call, part))
         for made, name, right, _ in ALL_METHODS:
             self.assertTrue(is_tupled(getattr(made, name)(**right)), name)
@@ -155,7 +162,8 @@ class BasicsTest(PromiseCase):
                 self.assertEqual(place == -1, not isinstance(item, tuple))
 
     def test_objects_are_not_iterable_and_have_no_length(self):
-        for made in (hall(), lanes(), House(hall(), (0,)), live(), Desk(), Carrying(ROUTES, PASSINGS)):
+        for made in (hall(), lanes(), House(hall(), (0,)), live(), Desk(), Carrying(ROUTES, PASSINGS), RadioHall(ROUTES, PASSINGS),
+                     RadioHouse(hall(), (0,))):
             self.assertRaises(TypeError, iter, made)
             self.assertRaises(TypeError, len, made)
             self.assertRaises(TypeError, lambda thing=made: 0 in thing)

@@ -4,6 +4,8 @@ import importlib
 import inspect
 import unittest
 
+from tests.test_basics import ALL_CALLS
+
 FUNCTIONS = {
     "dealing": {
         "least_dealing": "(table)", "dealing_holds": "(table, value)", "soonest_dealing": "(table)",
@@ -139,6 +141,30 @@ FUNCTIONS = {
     "detours": {
         "greatest_detour": "(hall, marked)", "best_streets": "(hall, nodes)", "detour_holds": "(hall, value)",
     },
+    "holds": {
+        "known_none": "(routes)", "heard_left": "(routes, known, visit)", "joined_known": "(routes, one, other)",
+        "granted_visits": "(routes, passings, known)", "told_holds": "(routes, passings, known)",
+        "implied_known": "(routes, passings, known)", "may_stand": "(routes, passings, known, robot)",
+    },
+    "unnamed": {
+        "loose_fault": "(hall, plan)", "turned_plan": "(hall, plan)", "loose_passings": "(hall, plan)",
+        "unnamed_paper": "(hall, task)", "unnamed_holds": "(hall, task, value)", "moves_paper": "(hall, task)",
+        "moves_hold": "(hall, task, value)",
+    },
+    "brain": {"plain_carrying": "(routes, passings, log)", "round_meeting": "(modulus)"},
+    "broken": {
+        "fetch_paper": "(hall, lost, start, goal)", "fetch_holds": "(hall, lost, start, goal, value)",
+        "fetch_order": "(hall, lost, start)", "freed_holds": "(hall, lost, start, value)",
+        "struck_passings": "(hall, routes, passings, visits, gone, broken)",
+        "never_comings": "(hall, routes, passings, visits, gone, broken)",
+        "mended_passings": "(hall, routes, passings, visits, gone, broken)",
+    },
+    "intime": {"within_paper": "(hall, task, ticks)", "within_holds": "(hall, task, ticks, value)"},
+    "lifted": {
+        "single_ways": "(hall)", "lifted_hall": "(hall, ways)", "turned_hall": "(hall, ways)", "lifted_paper": "(hall)",
+        "turning_paper": "(hall)", "lifted_holds": "(hall, value)", "turning_holds": "(hall, value)",
+    },
+    "records": {"record_holds": "(value)", "make_record": "(word, question)", "wrong_records": "(values)"},
     "exchanged": {
         "common_visits": "(routes, one, other)", "live_lots": "(routes, one, other)",
         "visit_bundles": "(routes, one, other)", "turning_steps": "(routes, one, other, lot, aim)",
@@ -163,10 +189,23 @@ CLASSES = {
         "wait_chain": "(self, robot)",
     },
     ("desk", "Desk"): {"__init__": "(self)", "say": "(self, command)"},
+    ("brain", "RadioHall"): {
+        "__init__": "(self, routes, passings, brains=1, modulus=0)", "may_begin": "(self, robot)",
+        "held_cells": "(self, robot)", "met_cell": "(self)", "do_word": "(self, word)", "sweep_bag": "(self)",
+    },
+    ("radiohouse", "RadioHouse"): {
+        "__init__": "(self, hall, homes, brains=1)", "may_begin": "(self, robot)", "met_cell": "(self)",
+        "do_word": "(self, word)", "sweep_bag": "(self)",
+    },
     ("carried", "Carrying"): {
         "__init__": "(self, routes, passings)", "may_start": "(self, robot)", "start_robot": "(self, robot)",
         "come_robot": "(self, robot)", "visit_of": "(self, robot)", "held_cells": "(self, robot)", "all_over": "(self)",
     },
+}
+ATTRIBUTES = {
+    ("halls", "Hall"): "kinds ways places cells marks followers neighbours", ("lanes", "LaneMap"): "rooms goings",
+    ("house", "House"): "hall homes words", ("live", "Live"): "house hall homes words", ("desk", "Desk"): "live",
+    ("carried", "Carrying"): "", ("brain", "RadioHall"): "done gone known bag log", ("radiohouse", "RadioHouse"): "house bag",
 }
 
 
@@ -189,6 +228,20 @@ class InterfaceTest(unittest.TestCase):
                 self.assertIn(method, vars(made), name)
                 if parameters is not None:
                     self.assertEqual(str(inspect.signature(vars(made)[method])), parameters, method)
+
+    def test_attributes(self):
+        # Each is set when the object is made, by the right arguments of the tables of calls.
+        made = {type(call(**right)): call(**right) for call, right, _ in ALL_CALLS if inspect.isclass(call)}
+        self.assertEqual({(kind.__module__.split(".")[1], kind.__name__) for kind in made}, set(CLASSES))
+        self.assertEqual(set(ATTRIBUTES), set(CLASSES))
+        for kind, thing in made.items():
+            for name in ATTRIBUTES[(kind.__module__.split(".")[1], kind.__name__)].split():
+                self.assertIn(name, vars(thing), kind)
+
+    def test_each_name_is_called_in_the_tables(self):
+        called = {(call.__module__.split(".")[1], call.__name__) for call, _, _ in ALL_CALLS}
+        listed = {(file, name) for file, functions in FUNCTIONS.items() for name in functions} | set(CLASSES)
+        self.assertEqual(listed - called, set())
 
 
 if __name__ == "__main__":
