@@ -72,6 +72,24 @@ def came_from(graph, starts):
     return came
 
 
+def in_order(graph):
+    """The things of a graph, each behind all that lead to it; without those on rings, and all to which rings lead."""
+    left = {one: 0 for one in graph}
+    for others in graph.values():
+        for other in others:
+            left[other] += 1
+    queue = [one for one in graph if left[one] == 0]
+    at = 0
+    while at < len(queue):
+        one = queue[at]
+        for other in graph[one]:
+            left[other] -= 1
+            if left[other] == 0:
+                queue.append(other)
+        at += 1
+    return queue
+
+
 def row_to(came, goal):
     """The row along which a thing was come to, by the one ahead of each."""
     row = [goal]

@@ -6,6 +6,7 @@ from nobodymeets.basics import is_count, is_index, is_number, is_sequence
 from nobodymeets.errors import InvalidIndex, InvalidSize
 from nobodymeets.halls import need_cell, need_hall
 from nobodymeets.plans import need_task, plan_costs, plan_holds
+from nobodymeets.ranked import held_in
 
 MOST_TICK = 1000
 MOST_NODES = 2000
@@ -147,12 +148,6 @@ def fewest_clashes(hall, layers, bars, others, goal):
 def clashes_in(rows, tick, cell, other):
     """With how many rows one clashes in a tick from a cell to an other."""
     return len([row for row in rows if cell in held_in(row, tick) or other in held_in(row, tick)])
-
-
-def held_in(row, tick):
-    """The cells that are held in a tick by who goes along a row, and stays behind its end."""
-    last = len(row) - 1
-    return (row[min(tick, last)], row[min(tick + 1, last)])
 
 
 def narrow_cells(hall, layers, bars, goal):

@@ -88,7 +88,7 @@ class RadioHall:
             if letter[0] == "hold":
                 self._take(letter)
             else:
-                for brain, facts in enumerate(self.known):
+                for brain, facts in enumerate(list(self.known)):
                     if facts is not None:
                         self._tell(brain, letter)
             number += 1

@@ -1,6 +1,6 @@
 """Passings carried out: who may start, when all come, what lateness and standing still do, and later orders."""
 
-from nobodymeets.basics import is_count, is_index, is_number, is_sequence, steps_from, steps_from_any
+from nobodymeets.basics import in_order, is_count, is_index, is_number, is_sequence, steps_from, steps_from_any
 from nobodymeets.errors import InvalidIndex, InvalidScript, InvalidWay, NoRobot, Refused
 from nobodymeets.passings import comings_of, need_both, paper_of, web_of
 
@@ -103,24 +103,6 @@ def turned_web(both):
     for one, other in web_of(both):
         graph[other].append(one)
     return graph
-
-
-def in_order(graph):
-    """The things of a graph without rings, each behind all that lead to it."""
-    left = {one: 0 for one in graph}
-    for others in graph.values():
-        for other in others:
-            left[other] += 1
-    queue = [one for one in graph if left[one] == 0]
-    at = 0
-    while at < len(queue):
-        one = queue[at]
-        for other in graph[one]:
-            left[other] -= 1
-            if left[other] == 0:
-                queue.append(other)
-        at += 1
-    return queue
 
 
 def coming_times(routes, passings, times):

@@ -56,7 +56,7 @@ def outer_cells(hall, lifted, lot, cell):
 
     A row is led from the lot to the cell, along ways and back along lifted ones, each of these once. If then another
     one can be led, no tight lot parts them; else those are told from which the cell could still be come to."""
-    graph = {one: {other: True for other in row} for one, row in enumerate(hall.followers)}
+    graph = {one: {near: True for near in row} for one, row in enumerate(hall.followers)}
     if cell in steps_from_any(graph, lot):
         return None
     for one, other in lifted:

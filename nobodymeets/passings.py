@@ -1,6 +1,6 @@
 """Routes of robots and passings, the order in which they come to each cell: a plan without its ticks."""
 
-from nobodymeets.basics import is_index, is_number, is_sequence
+from nobodymeets.basics import in_order, is_index, is_number, is_sequence
 from nobodymeets.errors import InvalidOrders, InvalidRoutes, Refused
 from nobodymeets.halls import need_hall
 from nobodymeets.plans import clash_of, need_rows
@@ -196,18 +196,9 @@ def greatest_ways(web, ahead):
     behind = {coming: [] for coming in ahead}
     for one, other in web:
         behind[one].append(other)
-    left = {coming: len(row) for coming, row in ahead.items()}
-    queue = [coming for coming in left if left[coming] == 0]
-    numbers = {coming: 1 for coming in queue}
-    at = 0
-    while at < len(queue):
-        one = queue[at]
-        for other in behind[one]:
-            left[other] -= 1
-            if left[other] == 0:
-                numbers[other] = 1 + max([numbers[coming] for coming in ahead[other]])
-                queue.append(other)
-        at += 1
+    numbers = {}
+    for coming in in_order(behind):
+        numbers[coming] = 1 + max([numbers[other] for other in ahead[coming]], default=0)
     return numbers
 
 

@@ -99,7 +99,7 @@ class RadioHouse:
 
     def _tell_all(self, letter):
         before = self._known
-        for brain, facts in enumerate(before):
+        for brain, facts in enumerate(list(before)):
             if facts is not None:
                 self._tell(brain, letter)
         # By the same facts, all holds are in the bag already.

@@ -146,7 +146,9 @@ def is_loose_plan(hall, task, value):
     """Whether any value is a loose plan from starts, robot by robot, to goals, in any order."""
     if not isinstance(value, tuple) or len(value) != len(task[0]):
         return False
-    if not all([isinstance(row, tuple) and is_plan_row(hall, row) and len(row) == len(value[0]) for row in value]):
+    if not all([isinstance(row, tuple) and is_plan_row(hall, row) for row in value]):
+        return False
+    if not all([len(row) == len(value[0]) for row in value]):
         return False
     if tuple([row[0] for row in value]) != task[0] or sorted([row[-1] for row in value]) != sorted(task[1]):
         return False

@@ -85,6 +85,7 @@ def changed_a_little(value):
     """All values that come of one by a single small change, at any depth."""
     if isinstance(value, (list, tuple)):
         yield list(value) if isinstance(value, tuple) else tuple(value)
+        yield from (None, 5, "x")
         yield from changed_rows(value)
         for at, item in enumerate(value):
             for changed in changed_a_little(item):

@@ -112,7 +112,7 @@ class HallTest(PromiseCase):
     def test_halls_changed_a_little(self):
         for hall in ((["park", "free", "shelf"], [(0, 1), (2, 1)], [(0, 0), (1, 0), (1, 1)]), (("free",), (), ())):
             for changed in changed_a_little(hall):
-                if len(changed) == 3:
+                if isinstance(changed, (list, tuple)) and len(changed) == 3:
                     self.check_made(*changed)
 
     def check_made(self, kinds, ways, places):

@@ -97,8 +97,11 @@ class ComingTest(PromiseCase):
     def test_a_stretch_of_one_tick_and_one_without_end(self):
         free = (((0, 6),), ((3, 4),), ((4, None),))
         self.tells(((0,), (3,), (4,)), earliest_comings, ROW, free, 0, 0)
-        self.tells(((0,), (3,), (4,)), earliest_comings, ROW, free, 0, 0)
         self.tells(((3,), (None,), (None,)), earliest_comings, ROW, free, 0, 3)
+        # In a row of free cells the farthest one is come to just at the bound.
+        for tick in (0, 4, 10 ** 9):
+            bound = coming_bound(ROW, (ALWAYS,) * 3, tick)
+            self.assertEqual(earliest_comings(ROW, (ALWAYS,) * 3, 0, tick)[2], (bound,))
         self.tells(((2,), (3,), (10 ** 9,)), latest_leavings, ROW, free, 2, 10 ** 9)
         self.tells(((10 ** 9,), (10 ** 9 + 1,), (10 ** 9 + 2,)), earliest_comings, ROW, (ALWAYS,) * 3, 0, 10 ** 9)
         self.assertEqual(coming_bound(ROW, (ALWAYS,) * 3, 10 ** 9), 10 ** 9 + 2)
