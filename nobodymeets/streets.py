@@ -82,8 +82,8 @@ def hall_bridges(hall):
 
 
 def lone_ties(blocks):
-    """The ties that are a block alone, ascending."""
-    return tuple(sorted([block[0] for block in blocks if len(block) == 1]))
+    """The ties that are a block alone, of blocks that ascend."""
+    return tuple([block[0] for block in blocks if len(block) == 1])
 
 
 def two_way_ties(hall):

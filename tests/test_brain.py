@@ -4,7 +4,7 @@ import copy
 import random
 import unittest
 
-from nobodymeets.brain import RadioHall, plain_carrying, round_meeting
+from nobodymeets.brain import RadioHall, first_met, plain_carrying, round_meeting
 from nobodymeets.carried import Carrying
 from nobodymeets.errors import (HallError, InvalidIndex, InvalidLetter, InvalidOrders, InvalidRoutes, InvalidScript,
                                 NoRobot, Refused)
@@ -360,6 +360,12 @@ class RoundTest(PromiseCase):
         for word in words[:-1]:
             hall.do_word(word)
         self.told(Refused, 0, hall.do_word, words[-1])
+
+    def test_the_first_of_several_that_meet(self):
+        self.assertEqual(first_met([(3,), (1, 2), (2, 3)]), (2, 1, 2))
+        self.assertEqual(first_met([(3, 4), (4, 3), (3,)]), (3, 0, 1))
+        self.assertEqual(first_met([(9,), (1, 9), (), (1,)]), (1, 1, 3))
+        self.assertIsNone(first_met([(3, 4), (), (5,)]))
 
     def test_wrong_moduli(self):
         for modulus in no_integers() + [1, 0, -1, -2]:

@@ -258,6 +258,14 @@ class TurnedTest(PromiseCase):
         self.assertEqual(paper[0], "way")
         self.assertTrue(is_paper(THERE, rows, 0, 1, [(2, 2)], paper))
         self.assertEqual(turned_paper(THERE, rows, 0, 1, ((2, 2), (1, 3), (3, 1)))[0], "live")
+        # It leads from the one's coming to the other's behind it, and nowhere else.
+        way = paper[1]
+        self.assertEqual((way[0], way[-1]), ((0, 2), (1, 3)))
+        for value in (way[:-1], way[1:], way[:1], way[-1:], ((0, 1),) + way, way + ((1, 4),), way[::-1], way[:1] + way[-1:],
+                      way[:-1] + ([1, 3],), (None,) + way, ([0, 2],) + way[1:], way[:1] + (7,) + way[1:]):
+            expected = is_paper(THERE, rows, 0, 1, [(2, 2)], ("way", value))
+            self.assertEqual(expected, value == way[:1] + way[-1:])
+            self.holds_just_if(expected, turned_holds, THERE, rows, 0, 1, ((2, 2),), ("way", value))
 
     def test_papers_by_chance(self):
         chance = random.Random(3)

@@ -195,6 +195,10 @@ class TableTest(PromiseCase):
         self.holds_just_if(False, stop_holds, *world, every + (((2, 0, 0), 0),))
         self.holds_just_if(False, stop_holds, *world, every + (((1, 1, 3), 0),))
         self.holds_just_if(False, stop_holds, *world, every[::-1])
+        # No more ends are done than there are, whatever leads where.
+        more = tuple(((2,) + state[1:], 0) for state, _ in every if state[0] == 1)
+        self.holds_just_if(False, stop_holds, *world, every + more)
+        self.holds_just_if(False, stop_holds, *world, every[:-1] + (((1, 2, 2), 0),))
 
     def test_states_that_fill(self):
         world = (read_drawing("C"), 7, 3, 0, 0, ())
